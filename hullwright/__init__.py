@@ -1,0 +1,1 @@
+"""Hullwright: convex polytopes in exact numbers."""

@@ -1,0 +1,56 @@
+"""Point 0.2: the general rules, for all functions that have landed."""
+
+import copy
+import unittest
+
+from hullwright import numbers, points, systems, vectors
+
+ROWS = [(0, 1, 0), (0, 0, 1), (1, -1, -1), (1, -1, -1), (4, -1, 0)]
+SPOTS = [(1, 0, 0), (1, 2, 0), (1, 0, 2), (2, 1, 1), (1, 0, 0)]
+
+CALLS = [
+    (numbers.fraction, 6, -4), (numbers.plus, (1, 2), (1, 3)), (numbers.minus, (1, 2), (1, 3)),
+    (numbers.times, (1, 2), (1, 3)), (numbers.over, (1, 2), (1, 3)), (numbers.sign, (1, 2)),
+    (numbers.compare, (1, 2), (1, 3)), (numbers.floor, (1, 2)), (numbers.write_fraction, (1, 2)),
+    (numbers.read_fraction, "1/2"),
+    (vectors.dot, (1, 2), (3, 4)), (vectors.primitive, (2, 4)), (vectors.echelon, [(2, 4), (1, 3), (0, 0)]),
+    (vectors.rank, [(2, 4), (1, 3)]), (vectors.determinant, [(0, 4), (1, 3)]), (vectors.determinant, [(5,)]),
+    (vectors.solve, [(2, 4), (1, 3)], (1, 1)), (vectors.solve, [(2, 4)], (1,)),
+    (vectors.relation, [(2, 4), (1, 2)]), (vectors.relation, [(0, 0)]),
+    (points.is_point, 2, [1, 2, 3]), (points.is_inequality, 2, [1, [2], 3]), (points.made_point, [(1, 2), (1, 3)]),
+    (points.middle, SPOTS), (points.coordinates, (6, 3, 2)), (points.made_inequality, (2, 4)),
+    (points.reversed_inequality, (2, 3)), (points.value_at, (1, -1, 0), (6, 3, 2)),
+    (points.combined, [1, 2, 3, 4, 5], SPOTS), (points.combined, [1], [(5, 5)]),
+    (points.write_point, (6, 3, 2)), (points.write_inequality, (6, 3, 2)), (points.read_point, 2, "1 2"),
+    (points.read_inequality, 1, "1 2"),
+    (systems.case_paper, 2, ROWS), (systems.case_of, 2, ROWS), (systems.check_case, 2, ROWS, ["full", [1], [2]]),
+    (systems.following_paper, 2, ROWS, (1, 1, 1)), (systems.check_following, 2, ROWS, (1, 1, 1), ["no", [1, 1]]),
+    (systems.satisfies, ROWS, (3, 1, 1)), (systems.needed_rows, 2, ROWS),
+]
+
+
+def lists_in(value):
+    """Return all lists in a value, itself included."""
+    if isinstance(value, list):
+        return [value] + [inner for entry in value for inner in lists_in(entry)]
+    if isinstance(value, tuple):
+        return [inner for entry in value for inner in lists_in(entry)]
+    return []
+
+
+class GeneralTest(unittest.TestCase):
+    def test_arguments_stay(self):
+        for function, *arguments in CALLS:
+            before = copy.deepcopy(arguments)
+            function(*arguments)
+            self.assertEqual(arguments, before, function.__name__)
+
+    def test_lists_are_new(self):
+        for function, *arguments in CALLS:
+            first = function(*arguments)
+            kept = copy.deepcopy(first)
+            known = {id(entry) for argument in arguments for entry in lists_in(argument)}
+            for entry in lists_in(first):
+                self.assertNotIn(id(entry), known, function.__name__)
+                entry.clear()
+            self.assertEqual(function(*arguments), kept, function.__name__)
