@@ -2,8 +2,6 @@
 
 from hullwright.errors import BadText
 
-BLOCK_DIGITS = 60
-BLOCK = 10 ** 60
 MOST_DIGITS = 60
 
 
@@ -12,10 +10,11 @@ def write_integer(number):
     if number < 0:
         return "-" + write_integer(-number)
     # Python refuses to turn very long integers into text at once, so it is done block by block.
+    limit = 10 ** 60
     blocks = []
-    while number >= BLOCK:
-        number, block = divmod(number, BLOCK)
-        blocks.append(str(block).zfill(BLOCK_DIGITS))
+    while number >= limit:
+        number, block = divmod(number, limit)
+        blocks.append(str(block).zfill(60))
     blocks.append(str(number))
     return "".join(reversed(blocks))
 

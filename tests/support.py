@@ -3,6 +3,7 @@
 Nothing here uses the package, so that the tests do not ask the program about itself.
 """
 
+import itertools
 import math
 import random
 from fractions import Fraction
@@ -321,6 +322,88 @@ def box_rows(d, bound):
     return [axis_row(d, bound, at, entry) for at in range(d) for entry in (1, -1)]
 
 
+def corner_rows(d):
+    """Return the inequalities of the points whose coordinates are all at least 0."""
+    return [axis_row(d, 0, at, 1) for at in range(d)]
+
+
+def systems_of(d):
+    """Return a dict with systems of each case."""
+    box = box_rows(d, 2)
+    sum_up = (-1,) + (1,) * d
+    sum_down = (1,) + (-1,) * d
+    return {
+        "full": [box, box + box, corner_rows(d) + [sum_down], box + [axis_row(d, 7, 0, 1)], box + [sum_up],
+                 box_rows(d, 9999)],
+        "flat": [box + [axis_row(d, -2, 0, 1)], box + [sum_up, sum_down], box_rows(d, 0), box_rows(d, 0) * 2,
+                 corner_rows(d) + [(0,) + (-1,) * d], box + [axis_row(d, -1, d - 1, 2), axis_row(d, 1, d - 1, -2)]],
+        "empty": [box + [axis_row(d, -3, 0, 1)], [axis_row(d, -1, 0, 1), axis_row(d, 0, 0, -1)],
+                  [sum_up, (0,) + (-1,) * d], box + [(-2 * d - 1,) + (1,) * d],
+                  corner_rows(d) + [(-1,) + (-1,) * d] * 2],
+        "unbounded": [corner_rows(d), [sum_up], [sum_up, sum_up], box[1:], [axis_row(d, -9999, 0, 1)],
+                      corner_rows(d) + [sum_up]] + ([box[2:], box[2:] + [axis_row(d, 0, 1, 1), axis_row(d, 0, 1, -1)],
+                                                     [sum_up, sum_down]] if d > 1 else []),
+    }
+
+
+def known_systems():
+    """Return a list of triples: a dimension, a system, and its case."""
+    return [(d, rows, word) for d in range(1, 5) for word, found in systems_of(d).items() for rows in found]
+
+
 def source_of(number):
     """Return a source of random numbers that is the same in each run."""
     return random.Random(number)
+
+
+def kernel_by_words(rows):
+    """Return an integer vector whose products with d rows of d + 1 entries and the rank d are 0."""
+    width = len(rows[0])
+    lines = reduced_form(rows)
+    pivots = [next(k for k in range(width) if line[k] != 0) for line in lines]
+    free = next(k for k in range(width) if k not in pivots)
+    found = [Fraction(0)] * width
+    found[free] = Fraction(1)
+    for line, at in zip(lines, pivots):
+        found[at] = -line[free]
+    common = math.lcm(*[entry.denominator for entry in found])
+    return divided(tuple(int(entry * common) for entry in found))
+
+
+def facets_by_words(d, points):
+    """Return the ascending list of the facets of the hull of points, from all choices of d of them."""
+    found = set()
+    for chosen in itertools.combinations(sorted(set(points)), d):
+        if rank_by_words(chosen) == d:
+            row = kernel_by_words(chosen)
+            for turned in (row, tuple(-entry for entry in row)):
+                if satisfied_everywhere(turned, points):
+                    found.add(turned)
+    return sorted(found)
+
+
+def vertices_by_words(d, points):
+    """Return those points that are the only common point of the facets that are tight at them."""
+    facets = facets_by_words(d, points)
+    return [point for point in sorted(set(points))
+            if rank_by_words([facet for facet in facets if product_of(facet, point) == 0]) == d]
+
+
+def is_flat_list(d, points):
+    """Tell whether all points lie in a common plane."""
+    return rank_by_words(points) <= d
+
+
+def moved_points(source, d, points):
+    """Return the images of points under a random map that keeps shapes, in a random order."""
+    while True:
+        rows = [some_row(source, d, 3) for _ in range(d)]
+        if rank_by_words(rows) == d:
+            break
+    step = some_row(source, d, 5)
+    images = []
+    for point in points:
+        image = weighted(point[1:], rows)
+        images.append(divided((point[0],) + tuple(a + point[0] * b for a, b in zip(image, step))))
+    source.shuffle(images)
+    return images

@@ -3,10 +3,12 @@
 import copy
 import unittest
 
-from hullwright import numbers, points, systems, vectors
+from hullwright import faces, known, numbers, points, polytopes, questions, shapes, systems, vectors
 
 ROWS = [(0, 1, 0), (0, 0, 1), (1, -1, -1), (1, -1, -1), (4, -1, 0)]
 SPOTS = [(1, 0, 0), (1, 2, 0), (1, 0, 2), (2, 1, 1), (1, 0, 0)]
+
+SQUARE = known.cube(2)
 
 CALLS = [
     (numbers.fraction, 6, -4), (numbers.plus, (1, 2), (1, 3)), (numbers.minus, (1, 2), (1, 3)),
@@ -26,6 +28,22 @@ CALLS = [
     (systems.case_paper, 2, ROWS), (systems.case_of, 2, ROWS), (systems.check_case, 2, ROWS, ["full", [1], [2]]),
     (systems.following_paper, 2, ROWS, (1, 1, 1)), (systems.check_following, 2, ROWS, (1, 1, 1), ["no", [1, 1]]),
     (systems.satisfies, ROWS, (3, 1, 1)), (systems.needed_rows, 2, ROWS),
+    (questions.is_question, 2, SPOTS, ["inside", [1]]), (questions.check, 2, SPOTS, ("corner", 0), ["yes", [1]]),
+    (questions.answer_paper, 2, SPOTS, ("inside", (1, 5, 5))), (questions.answer_paper, 2, SPOTS, ("corner", 1)),
+    (questions.answer_paper, 2, SPOTS, ("face", (0, 1))), (questions.answer_paper, 2, SPOTS, ("meets", ((1, 1, 1),))),
+    (questions.answer_paper, 2, SPOTS, ("within", (1, 1, 1), (1, 2))),
+]
+
+# These return objects, or take them: an object never changes, which is seen by its lists.
+POLYTOPE_CALLS = [
+    (faces.faces, SQUARE), (faces.face_numbers, SQUARE), (faces.face_dimension, SQUARE, (0, 1)),
+    (faces.is_face, SQUARE, [0, [1]]), (faces.meet, SQUARE, (0, 1), (0, 2)), (faces.join, SQUARE, (0,), (1,)),
+    (faces.facets_of, SQUARE, (0,)), (faces.supporting, SQUARE, (0,)), (faces.graph, SQUARE), (faces.flags, SQUARE),
+    (faces.is_simple, SQUARE), (faces.is_simplicial, SQUARE), (shapes.shape_map, SQUARE, SQUARE),
+    (shapes.is_shape_map, SQUARE, SQUARE, [0, [1]]),
+    (polytopes.same, SQUARE, SQUARE), (polytopes.Polytope.dimension, SQUARE), (polytopes.Polytope.vertices, SQUARE),
+    (polytopes.Polytope.facets, SQUARE), (polytopes.Polytope.incidence, SQUARE),
+    (polytopes.Polytope.contains, SQUARE, (1, 0, 0)), (polytopes.Polytope.is_inside, SQUARE, (1, 0, 0)),
 ]
 
 
@@ -38,6 +56,11 @@ def lists_in(value):
     return []
 
 
+def lists_of(P):
+    """Return all that tells a polytope from others."""
+    return (P.dimension(), P.vertices(), P.facets(), P.incidence())
+
+
 class GeneralTest(unittest.TestCase):
     def test_arguments_stay(self):
         for function, *arguments in CALLS:
@@ -45,8 +68,25 @@ class GeneralTest(unittest.TestCase):
             function(*arguments)
             self.assertEqual(arguments, before, function.__name__)
 
+    def test_arguments_of_makers_stay(self):
+        for maker, rows in ((polytopes.hull, SPOTS), (polytopes.common_part, ROWS)):
+            given = list(rows)
+            P = maker(2, given)
+            self.assertEqual(given, rows)
+            before = lists_of(P)
+            given.clear()
+            self.assertEqual(lists_of(P), before)
+
+    def test_polytopes_never_change(self):
+        before = lists_of(SQUARE)
+        for function, *arguments in POLYTOPE_CALLS:
+            function(*arguments)
+            self.assertEqual(lists_of(SQUARE), before)
+        faces.face_polytope(SQUARE, (0, 1))
+        self.assertEqual(lists_of(SQUARE), before)
+
     def test_lists_are_new(self):
-        for function, *arguments in CALLS:
+        for function, *arguments in CALLS + POLYTOPE_CALLS:
             first = function(*arguments)
             kept = copy.deepcopy(first)
             known = {id(entry) for argument in arguments for entry in lists_in(argument)}

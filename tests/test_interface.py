@@ -14,16 +14,41 @@ INTERFACE = {
               " read_inequality(d, text)",
     "systems": "case_paper(d, rows) case_of(d, rows) check_case(d, rows, value) following_paper(d, rows, inequality)"
                " check_following(d, rows, inequality, value) satisfies(rows, point) needed_rows(d, rows)",
+    "polytopes": "same(first, second) hull(d, points) common_part(d, rows)",
+    "known": "cube(d) cross(d) simplex(d) cyclic(d, n)",
+    "questions": "is_question(d, points, value) check(d, points, question, paper) answer_paper(d, points, question)",
+    "faces": "faces(P) face_numbers(P) face_dimension(P, face) is_face(P, value) meet(P, first, second)"
+             " join(P, first, second) facets_of(P, face) supporting(P, face) graph(P) flags(P) is_simple(P)"
+             " is_simplicial(P) face_polytope(P, face)",
+    "shapes": "shape_map(first, second) is_shape_map(first, second, value)",
+}
+
+METHODS = {
+    ("polytopes", "Polytope"): "dimension() vertices() facets() incidence() contains(point) is_inside(point)",
 }
 
 
+def entries_of(listed):
+    """Yield the names and the lists of arguments."""
+    for entry in listed.replace(") ", ")\n").split("\n"):
+        name, arguments = entry[:-1].split("(")
+        yield name, [argument for argument in arguments.split(", ") if argument]
+
+
 class InterfaceTest(unittest.TestCase):
+    def assert_listed(self, function, module, arguments):
+        self.assertTrue(inspect.isfunction(function))
+        self.assertEqual(function.__module__, module.__name__)
+        self.assertEqual(list(inspect.signature(function).parameters), arguments)
+
     def test_functions(self):
         for module_name, listed in INTERFACE.items():
             module = importlib.import_module("hullwright." + module_name)
-            for entry in listed.replace(") ", ")\n").split("\n"):
-                name, arguments = entry[:-1].split("(")
-                function = getattr(module, name)
-                self.assertTrue(inspect.isfunction(function), name)
-                self.assertEqual(function.__module__, module.__name__)
-                self.assertEqual(list(inspect.signature(function).parameters), arguments.split(", "), name)
+            for name, arguments in entries_of(listed):
+                self.assert_listed(getattr(module, name), module, arguments)
+
+    def test_methods(self):
+        for (module_name, class_name), listed in METHODS.items():
+            module = importlib.import_module("hullwright." + module_name)
+            for name, arguments in entries_of(listed):
+                self.assert_listed(vars(getattr(module, class_name))[name], module, ["self"] + arguments)

@@ -5,39 +5,8 @@ import unittest
 from hullwright.systems import (
     case_of, case_paper, check_case, check_following, following_paper, needed_rows, satisfies)
 from tests.support import (
-    ODD_VALUES, axis_row, box_rows, product_of, right_case, right_following, satisfied, some_inequality, some_point,
-    some_system, source_of, variants)
-
-WORDS = ("empty", "unbounded", "flat", "full")
-
-
-def corner_rows(d):
-    """Return the inequalities of the points whose coordinates are all at least 0."""
-    return [axis_row(d, 0, at, 1) for at in range(d)]
-
-
-def systems_of(d):
-    """Return a dict with systems of each case."""
-    box = box_rows(d, 2)
-    sum_up = (-1,) + (1,) * d
-    sum_down = (1,) + (-1,) * d
-    return {
-        "full": [box, box + box, corner_rows(d) + [sum_down], box + [axis_row(d, 7, 0, 1)], box + [sum_up],
-                 box_rows(d, 9999)],
-        "flat": [box + [axis_row(d, -2, 0, 1)], box + [sum_up, sum_down], box_rows(d, 0), box_rows(d, 0) * 2,
-                 corner_rows(d) + [(0,) + (-1,) * d], box + [axis_row(d, -1, d - 1, 2), axis_row(d, 1, d - 1, -2)]],
-        "empty": [box + [axis_row(d, -3, 0, 1)], [axis_row(d, -1, 0, 1), axis_row(d, 0, 0, -1)],
-                  [sum_up, (0,) + (-1,) * d], box + [(-2 * d - 1,) + (1,) * d],
-                  corner_rows(d) + [(-1,) + (-1,) * d] * 2],
-        "unbounded": [corner_rows(d), [sum_up], [sum_up, sum_up], box[1:], [axis_row(d, -9999, 0, 1)],
-                      corner_rows(d) + [sum_up]] + ([box[2:], box[2:] + [axis_row(d, 0, 1, 1), axis_row(d, 0, 1, -1)],
-                                                     [sum_up, sum_down]] if d > 1 else []),
-    }
-
-
-def known_systems():
-    """Return a list of triples: a dimension, a system, and its case."""
-    return [(d, rows, word) for d in range(1, 5) for word, found in systems_of(d).items() for rows in found]
+    ODD_VALUES, axis_row, box_rows, known_systems, product_of, right_case, right_following, satisfied, some_inequality,
+    some_point, some_system, source_of, systems_of, variants)
 
 
 def random_systems(number, many):
