@@ -86,10 +86,7 @@ def read_point(d, text):
 
 def read_inequality(d, text):
     """Return the inequality of the dimension d with a text."""
-    words = text.split(" ")
-    if len(words) != d + 1:
-        raise BadText("not the text of an inequality")
-    found = tuple([read_integer(word, MOST_DIGITS) for word in words])
+    found = tuple([read_integer(word, MOST_DIGITS) for word in text.split(" ")])
     if not is_inequality(d, found):
         raise BadText("not the text of an inequality")
     return found
