@@ -134,7 +134,11 @@ def face_polytope(P, face):
     if not is_face(P, face) or face_dimension(P, face) < 1:
         raise BadFace("not a face of a dimension from 1 to d")
     vertices = P.vertices()
-    points = [vertices[k] for k in face]
+    return hull_in_kept_columns([vertices[k] for k in face])
+
+
+def hull_in_kept_columns(points):
+    """Return the hull of points without those coordinates that the ones before them determine."""
     columns = kept_columns(points)
     return hull(len(columns) - 1, [primitive(picked(point, columns)) for point in points])
 

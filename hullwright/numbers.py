@@ -36,6 +36,16 @@ def over(x, y):
     return fraction(x[0] * y[1], x[1] * y[0])
 
 
+def total(values):
+    """Return the sum of a list of fractions."""
+    # Two by two, because the divisors of long sums grow.
+    rest = [(0, 1)] + values
+    while len(rest) > 1:
+        pairs = [plus(rest[k], rest[k + 1]) for k in range(0, len(rest) - 1, 2)]
+        rest = pairs + rest[2 * len(pairs):]
+    return rest[0]
+
+
 def sign(x):
     """Return the sign of a fraction: 1, 0 or -1."""
     if x[0] > 0:
@@ -48,6 +58,24 @@ def sign(x):
 def compare(x, y):
     """Return the sign of the difference of two fractions."""
     return sign(minus(x, y))
+
+
+def greatest_of(values):
+    """Return the greatest fraction of a list."""
+    best = values[0]
+    for value in values:
+        if compare(value, best) > 0:
+            best = value
+    return best
+
+
+def least_of(values):
+    """Return the least fraction of a list."""
+    best = values[0]
+    for value in values:
+        if compare(value, best) < 0:
+            best = value
+    return best
 
 
 def floor(x):

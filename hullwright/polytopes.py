@@ -53,11 +53,16 @@ def same(first, second):
 def hull(d, points):
     """Return the polytope that is the hull of a list of points."""
     different = sorted(set(points))
-    plane = relation(transposed(different))
-    if plane is not None:
-        raise Flat(plane)
+    check_not_flat(different)
     facets = extreme_rays(different)
     return Polytope(d, with_full_meeting(d, different, facets), facets)
+
+
+def check_not_flat(points):
+    """Raise Flat if all points of a list lie in a common plane."""
+    plane = relation(transposed(points))
+    if plane is not None:
+        raise Flat(plane)
 
 
 def common_part(d, rows):

@@ -128,3 +128,22 @@ def relation(rows):
     for row, at in zip(reduced, pivots):
         found[at] = -row[free[0]] * (common // row[at])
     return primitive(found)
+
+
+def inverted(rows):
+    """Return a pair of integer rows and a number of at least 1: divided by it, the rows are the inverse matrix."""
+    size = len(rows)
+    reduced = echelon([tuple(row) + unit(size, k) for k, row in enumerate(rows)])
+    common = 1
+    for k in range(size):
+        common = lcm(common, reduced[k][k])
+    found = []
+    for k in range(size):
+        factor = common // reduced[k][k]
+        found.append(tuple([factor * entry for entry in reduced[k][size:]]))
+    return (found, common)
+
+
+def unit(size, at):
+    """Return the vector of this length with 1 at an index and 0 otherwise."""
+    return (0,) * at + (1,) + (0,) * (size - at - 1)

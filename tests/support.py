@@ -96,8 +96,18 @@ def reduced_form(rows):
 
 
 def rank_by_words(rows):
-    """Return the rank of a list of rows."""
-    return len(reduced_form(rows))
+    """Return the rank of a list of rows of integers."""
+    work = list(rows)
+    rank = 0
+    while work:
+        lead = next((row for row in work if any(row)), None)
+        if lead is None:
+            break
+        at = next(k for k, entry in enumerate(lead) if entry != 0)
+        work.remove(lead)
+        work = [[lead[at] * a - row[at] * b for a, b in zip(row, lead)] for row in work]
+        rank += 1
+    return rank
 
 
 def whole(value):
@@ -357,25 +367,17 @@ def source_of(number):
 
 
 def kernel_by_words(rows):
-    """Return an integer vector whose products with d rows of d + 1 entries and the rank d are 0."""
-    width = len(rows[0])
-    lines = reduced_form(rows)
-    pivots = [next(k for k in range(width) if line[k] != 0) for line in lines]
-    free = next(k for k in range(width) if k not in pivots)
-    found = [Fraction(0)] * width
-    found[free] = Fraction(1)
-    for line, at in zip(lines, pivots):
-        found[at] = -line[free]
-    common = math.lcm(*[entry.denominator for entry in found])
-    return divided(tuple(int(entry * common) for entry in found))
+    """Return an integer vector whose products with d rows of d + 1 entries are 0, of zeros if their rank is less."""
+    minors = [det_by_words([row[:k] + row[k + 1:] for row in rows]) for k in range(len(rows) + 1)]
+    return divided(tuple((-1) ** k * minor for k, minor in enumerate(minors)))
 
 
 def facets_by_words(d, points):
     """Return the ascending list of the facets of the hull of points, from all choices of d of them."""
     found = set()
     for chosen in itertools.combinations(sorted(set(points)), d):
-        if rank_by_words(chosen) == d:
-            row = kernel_by_words(chosen)
+        row = kernel_by_words(chosen)
+        if any(row):
             for turned in (row, tuple(-entry for entry in row)):
                 if satisfied_everywhere(turned, points):
                     found.add(turned)
@@ -407,3 +409,131 @@ def moved_points(source, d, points):
         images.append(divided((point[0],) + tuple(a + point[0] * b for a, b in zip(image, step))))
     source.shuffle(images)
     return images
+
+
+def det_by_words(rows):
+    """Return the determinant of a square matrix, from its first row."""
+    if len(rows) == 1:
+        return rows[0][0]
+    if len(rows) == 2:
+        return rows[0][0] * rows[1][1] - rows[0][1] * rows[1][0]
+    minors = [[row[:k] + row[k + 1:] for row in rows[1:]] for k in range(len(rows))]
+    return sum((-1) ** k * entry * det_by_words(minors[k]) for k, entry in enumerate(rows[0]) if entry != 0)
+
+
+def corners_by_words(d, rows):
+    """Return the ascending list of the vertices of the points that satisfy a bounded system, flat or not."""
+    found = set()
+    for chosen in itertools.combinations(sorted(set(rows)), d):
+        point = kernel_by_words(chosen)
+        if point[0] < 0:
+            point = tuple(-entry for entry in point)
+        if point[0] > 0 and satisfied(rows, point):
+            found.add(point)
+    return sorted(found)
+
+
+def exact(point):
+    """Return the coordinates of a point as fractions of Python."""
+    return tuple(Fraction(entry, point[0]) for entry in point[1:])
+
+
+def point_of(values):
+    """Return the point with fractions of Python as coordinates."""
+    common = math.lcm(*[Fraction(value).denominator for value in values])
+    return (common,) + tuple(int(value * common) for value in values)
+
+
+def pair_of(value):
+    """Return a fraction of Python as a pair of integers."""
+    return (Fraction(value).numerator, Fraction(value).denominator)
+
+
+def cell_volume_by_words(d, chosen):
+    """Return the volume of the hull of d + 1 points."""
+    bottom = math.factorial(d)
+    for point in chosen:
+        bottom *= point[0]
+    return Fraction(abs(det_by_words(chosen)), bottom)
+
+
+def placed_cells(d, points):
+    """Return cells of a list of points that is not flat: each point is put to all sides that it sees from outside.
+
+    A side is a tuple of indexes, kept together with the index of a point on its inner side.
+    """
+    order = []
+    for k in range(len(points)):
+        if rank_by_words([points[i] for i in order + [k]]) > len(order):
+            order.append(k)
+    cells = [tuple(order)]
+    sides = {tuple(i for i in order if i != k): k for k in order}
+    for k in range(len(points)):
+        if k in order:
+            continue
+        seen = [(side, inner) for side, inner in sides.items() if sees(points, side, inner, k)]
+        fresh = {}
+        for side, inner in seen:
+            cells.append(side + (k,))
+            del sides[side]
+            for i in side:
+                outer = tuple(sorted([j for j in side if j != i] + [k]))
+                # A side between two new cells is not at the border.
+                if outer in fresh:
+                    fresh[outer] = None
+                else:
+                    fresh[outer] = i
+        sides.update({side: inner for side, inner in fresh.items() if inner is not None})
+    return [tuple(sorted(cell)) for cell in cells]
+
+
+def sees(points, side, inner, k):
+    """Tell whether a point lies strictly beyond a side."""
+    rows = [points[i] for i in side]
+    return det_by_words(rows + [points[inner]]) * det_by_words(rows + [points[k]]) < 0
+
+
+def volume_by_words(d, points):
+    """Return the volume of the hull of points that are not flat."""
+    return sum(cell_volume_by_words(d, [points[k] for k in cell]) for cell in placed_cells(d, points))
+
+
+def lattice_by_words(d, points, strict):
+    """Return the ascending list of the lattice points in the hull of points, or of those inside."""
+    facets = facets_by_words(d, points)
+    ranges = []
+    for k in range(d):
+        values = [exact(point)[k] for point in points]
+        ranges.append(range(math.ceil(min(values)), math.floor(max(values)) + 1))
+    least = 1 if strict else 0
+    return [(1,) + rest for rest in itertools.product(*ranges)
+            if all(product_of(facet, (1,) + rest) >= least for facet in facets)]
+
+
+def tight_everywhere(d, inequality, points):
+    """Tell whether a value is an inequality that is tight at all points."""
+    return inequality_by_words(d, inequality) and all(product_of(inequality, point) == 0 for point in points)
+
+
+def hull_rows_by_words(d, points):
+    """Return a system whose solutions are the hull of points, also if it is flat."""
+    spots = list(points)
+    planes = []
+    # Further points outside of its plane make a greater hull, which meets the plane in the hull alone.
+    for extra in [(1,) + (0,) * d] + [axis_row(d, 1, at, 1) for at in range(d)]:
+        if rank_by_words(spots + [extra]) > rank_by_words(spots):
+            spots.append(extra)
+    first = rank_by_words(points)
+    for k in range(first, d + 1):
+        others = [p for p in spots if p != spots[len(spots) - 1 - (k - first)]]
+        planes.append(kernel_by_words(independent_by_words(others)))
+    return facets_by_words(d, spots) + planes + [tuple(-entry for entry in row) for row in planes]
+
+
+def independent_by_words(rows):
+    """Return the first rows that have the rank of all."""
+    chosen = []
+    for row in rows:
+        if rank_by_words(chosen + [row]) > len(chosen):
+            chosen.append(row)
+    return chosen
