@@ -3,10 +3,17 @@
 import copy
 import unittest
 
-from hullwright import faces, known, numbers, points, polytopes, questions, shapes, systems, vectors
+from hullwright import (
+    books, builder, cells, console, dimensions, ehrhart, faces, known, lattice, making, numbers, optimum, points,
+    polytopes, questions, shapes, systems, vectors, volumes)
+from tests.samples import lists_of
+from tests.support import divided, source_of
 
 ROWS = [(0, 1, 0), (0, 0, 1), (1, -1, -1), (1, -1, -1), (4, -1, 0)]
 SPOTS = [(1, 0, 0), (1, 2, 0), (1, 0, 2), (2, 1, 1), (1, 0, 0)]
+
+CORNERS = [(1, 0, 0), (1, 2, 0), (1, 0, 2), (1, 2, 2), (1, 1, 1)]
+MAP = [(3, 1, 2), (0, 1, 4), (0, -2, 5)]
 
 SQUARE = known.cube(2)
 
@@ -32,6 +39,14 @@ CALLS = [
     (questions.answer_paper, 2, SPOTS, ("inside", (1, 5, 5))), (questions.answer_paper, 2, SPOTS, ("corner", 1)),
     (questions.answer_paper, 2, SPOTS, ("face", (0, 1))), (questions.answer_paper, 2, SPOTS, ("meets", ((1, 1, 1),))),
     (questions.answer_paper, 2, SPOTS, ("within", (1, 1, 1), (1, 2))),
+    (making.inverse_map, MAP), (cells.cell_volume, 2, CORNERS, (0, 1, 2)), (cells.triangulation, 2, CORNERS),
+    (cells.is_triangulation, 2, CORNERS, ((0, 1, 2), [0, 1, 3])),
+    (cells.is_triangulation, 2, CORNERS, ((0, 1, 2), (1, 2, 3))), (cells.lower_cells, 2, CORNERS, [0, 1, 1, 0, 7]),
+    (ehrhart.box_points, 2, CORNERS, (0, 1, 2), (1,)), (ehrhart.ehrhart_value, [(1, 1), (3, 2), (1, 2)], 7),
+    (console.run_console, "dimension 1\npoint 0\n"), (optimum.form_value, (1, 2), (3, 1, 1)),
+    (optimum.optimum_paper, 2, ROWS, (1, 2)), (optimum.optimum_paper, 2, ROWS[:2], (1, 2)),
+    (optimum.optimum_paper, 2, ROWS + [(-9, 0, 1)], (1, 2)),
+    (optimum.check_optimum, 2, ROWS, (1, 2), ["best", [1], [2], 3]),
 ]
 
 # These return objects, or take them: an object never changes, which is seen by its lists.
@@ -44,6 +59,22 @@ POLYTOPE_CALLS = [
     (polytopes.same, SQUARE, SQUARE), (polytopes.Polytope.dimension, SQUARE), (polytopes.Polytope.vertices, SQUARE),
     (polytopes.Polytope.facets, SQUARE), (polytopes.Polytope.incidence, SQUARE),
     (polytopes.Polytope.contains, SQUARE, (1, 0, 0)), (polytopes.Polytope.is_inside, SQUARE, (1, 0, 0)),
+    (volumes.volume, SQUARE), (volumes.centroid, SQUARE), (volumes.facet_volumes, SQUARE, (1, 0, 0)),
+    (volumes.mixed_volumes, SQUARE, SQUARE), (lattice.lattice_points, SQUARE), (lattice.count, SQUARE),
+    (lattice.inner_lattice_points, SQUARE), (lattice.inner_count, SQUARE), (lattice.lattice_width, SQUARE, (1, 2)),
+    (ehrhart.ehrhart, SQUARE), (ehrhart.h_star, SQUARE), (books.write_polytope, SQUARE), (books.report, SQUARE),
+    (optimum.greatest, SQUARE, (1, 2)), (optimum.best_face, SQUARE, (1, 0)),
+]
+
+# These return polytopes.
+MAKERS = [
+    (making.polar, SQUARE), (making.moved, SQUARE, MAP), (making.half, SQUARE, (0, 1, 1)),
+    (making.meeting, SQUARE, SQUARE), (making.united, SQUARE, SQUARE), (making.summed, SQUARE, SQUARE),
+    (making.scaled, SQUARE, (-1, 3)), (making.shifted, SQUARE, (3, 1, 1)), (dimensions.product, SQUARE, SQUARE),
+    (dimensions.prism, SQUARE), (dimensions.pyramid, SQUARE), (dimensions.bipyramid, SQUARE),
+    (dimensions.shadow, SQUARE, 1), (dimensions.section, SQUARE, 1, (1, 2)), (dimensions.corner_figure, SQUARE, 0),
+    (lattice.lattice_hull, SQUARE), (faces.face_polytope, SQUARE, (0, 1)), (polytopes.hull, 2, SPOTS),
+    (polytopes.common_part, 2, ROWS),
 ]
 
 
@@ -54,11 +85,6 @@ def lists_in(value):
     if isinstance(value, tuple):
         return [inner for entry in value for inner in lists_in(entry)]
     return []
-
-
-def lists_of(P):
-    """Return all that tells a polytope from others."""
-    return (P.dimension(), P.vertices(), P.facets(), P.incidence())
 
 
 class GeneralTest(unittest.TestCase):
@@ -82,8 +108,16 @@ class GeneralTest(unittest.TestCase):
         for function, *arguments in POLYTOPE_CALLS:
             function(*arguments)
             self.assertEqual(lists_of(SQUARE), before)
-        faces.face_polytope(SQUARE, (0, 1))
-        self.assertEqual(lists_of(SQUARE), before)
+
+    def test_makers(self):
+        before = lists_of(SQUARE)
+        for function, *arguments in MAKERS:
+            given = [argument for argument in arguments if argument is not SQUARE]
+            kept = copy.deepcopy(given)
+            P = function(*arguments)
+            self.assertIsInstance(P, polytopes.Polytope)
+            self.assertEqual(given, kept, function.__name__)
+            self.assertEqual(lists_of(SQUARE), before, function.__name__)
 
     def test_lists_are_new(self):
         for function, *arguments in CALLS + POLYTOPE_CALLS:
@@ -94,3 +128,53 @@ class GeneralTest(unittest.TestCase):
                 self.assertNotIn(id(entry), known, function.__name__)
                 entry.clear()
             self.assertEqual(function(*arguments), kept, function.__name__)
+
+
+def four_digits(source, many):
+    """Return points and inequalities of the dimension 4 whose integers have at most four digits."""
+    spots = [(1,) + tuple(source.randint(-9999, 9999) for _ in range(4)) for _ in range(many)]
+    signs = [(1, 1, 1, 1), (1, 1, -1, -1), (1, -1, 1, -1), (1, -1, -1, 1), (-1, -1, -1, -1), (-1, -1, 1, 1),
+             (-1, 1, -1, 1), (-1, 1, 1, -1)]
+    rows = [(source.randint(1, 9999),) + tuple(turn * source.randint(5000, 9999) for turn in row) for row in signs]
+    return spots, [divided(row) for row in rows]
+
+
+class EndsSoonTest(unittest.TestCase):
+    def test_all_that_need_no_lattice_points(self):
+        source = source_of(231)
+        for _ in range(2):
+            spots, rows = four_digits(source, 8)
+            P = polytopes.hull(4, spots)
+            Q = polytopes.common_part(4, rows)
+            inner = volumes.centroid(P)
+            self.assertTrue(P.is_inside(inner))
+            back = (inner[0],) + tuple(-entry for entry in inner[1:])
+            self.assertEqual(len(making.polar(making.shifted(P, back)).vertices()), len(P.facets()))
+            self.assertEqual(len(volumes.mixed_volumes(P, Q)), 5)
+            self.assertEqual(len(volumes.facet_volumes(Q, Q.vertices()[0])), len(Q.facets()))
+            self.assertEqual(making.united(P, Q).dimension(), 4)
+            self.assertEqual(optimum.optimum_paper(4, rows, (9999, -9998, 7777, 1))[0], "best")
+            for R in (P, Q):
+                vertices = R.vertices()
+                self.assertIs(cells.is_triangulation(4, vertices, cells.triangulation(4, vertices)), True)
+                heights = [source.randint(-9999, 9999) for _ in vertices]
+                self.assertNotEqual(cells.lower_cells(4, vertices, heights), [])
+                self.assertEqual(dimensions.corner_figure(R, 0).dimension(), 3)
+                self.assertEqual(dimensions.shadow(R, 4).dimension(), 3)
+                centre = volumes.centroid(R)
+                height = numbers.fraction(centre[2], centre[0])
+                self.assertEqual(dimensions.section(R, 2, height).dimension(), 3)
+                self.assertEqual(making.half(R, facet_through(centre)).dimension(), 4)
+                self.assertTrue(polytopes.same(books.read_polytope(books.write_polytope(R)), R))
+            desk = builder.Builder(4)
+            for spot in spots:
+                desk.add(spot)
+            for row in rows:
+                desk.cut(row)
+            self.assertIn(desk.state(), ("polytope", "flat", "empty"))
+            self.assertGreaterEqual(desk.volume()[0], 0)
+
+
+def facet_through(point):
+    """Return an inequality that is tight at a point."""
+    return divided((-point[1], point[0], 0, 0, 0))

@@ -21,16 +21,33 @@ INTERFACE = {
              " join(P, first, second) facets_of(P, face) supporting(P, face) graph(P) flags(P) is_simple(P)"
              " is_simplicial(P) face_polytope(P, face)",
     "shapes": "shape_map(first, second) is_shape_map(first, second, value)",
+    "making": "polar(P) moved(P, rows) half(P, inequality) meeting(P, Q) united(P, Q) summed(P, Q) scaled(P, factor)"
+              " shifted(P, point) inverse_map(rows)",
+    "dimensions": "product(P, Q) prism(P) pyramid(P) bipyramid(P) shadow(P, k) section(P, k, value)"
+                  " corner_figure(P, index)",
+    "cells": "cell_volume(d, points, cell) is_triangulation(d, points, value) triangulation(d, points)"
+             " lower_cells(d, points, heights)",
+    "volumes": "volume(P) centroid(P) facet_volumes(P, point) mixed_volumes(P, Q)",
+    "lattice": "lattice_points(P) inner_lattice_points(P) count(P) inner_count(P) lattice_hull(P)"
+               " lattice_width(P, direction)",
+    "ehrhart": "ehrhart(P) ehrhart_value(coefficients, t) h_star(P) box_points(d, points, cell, open_facets)",
+    "builder": "",
+    "books": "write_polytope(P) report(P) read_polytope(text)",
+    "console": "run_console(text)",
+    "optimum": "form_value(form, point) greatest(P, form) best_face(P, form) optimum_paper(d, rows, form)"
+               " check_optimum(d, rows, form, value)",
 }
 
 METHODS = {
     ("polytopes", "Polytope"): "dimension() vertices() facets() incidence() contains(point) is_inside(point)",
+    ("builder", "Builder"): "add(point) remove(point) cut(inequality) uncut(inequality) points() inequalities() state()"
+                            " polytope() undo() volume()",
 }
 
 
 def entries_of(listed):
     """Yield the names and the lists of arguments."""
-    for entry in listed.replace(") ", ")\n").split("\n"):
+    for entry in listed.replace(") ", ")\n").splitlines():
         name, arguments = entry[:-1].split("(")
         yield name, [argument for argument in arguments.split(", ") if argument]
 
@@ -52,3 +69,7 @@ class InterfaceTest(unittest.TestCase):
             module = importlib.import_module("hullwright." + module_name)
             for name, arguments in entries_of(listed):
                 self.assert_listed(vars(getattr(module, class_name))[name], module, ["self"] + arguments)
+
+    def test_builder_begins_with_a_dimension(self):
+        from hullwright.builder import Builder
+        self.assertEqual(list(inspect.signature(Builder).parameters), ["d"])
