@@ -28,7 +28,6 @@ def product(P, Q):
 
 def prism(P):
     """Return the product of P and the polytope with the vertices 0 and 1."""
-    check_size(P.dimension() + 1)
     return product(P, simplex(1))
 
 

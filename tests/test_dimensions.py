@@ -166,6 +166,9 @@ class CornerFigureTest(unittest.TestCase):
         Q = corner_figure(P, index)
         d = P.dimension()
         self.assertEqual(Q.dimension(), d - 1)
+        # Its points are points of P, of which one coordinate is left out.
+        shadows = [shadow(P, k) for k in range(1, d + 1)]
+        self.assertTrue(any(all(S.contains(vertex) for vertex in Q.vertices()) for S in shadows))
         containing = [[face for face in row if index in face] for row in faces(P)]
         self.assertEqual(face_numbers(Q), [len(row) for row in containing[2:]])
         # A facet of the figure has as many vertices as the facet of P has edges at the vertex.
