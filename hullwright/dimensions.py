@@ -1,7 +1,7 @@
 """New polytopes of other dimensions."""
 
 from hullwright.errors import BadFace, BadSize, Empty
-from hullwright.faces import graph, hull_in_kept_columns, supporting
+from hullwright.faces import hull_in_kept_columns, neighbours, supporting
 from hullwright.forms import is_index
 from hullwright.known import simplex
 from hullwright.numbers import least_of, times
@@ -92,7 +92,7 @@ def corner_figure(P, index):
     vertices = P.vertices()
     if not is_index(len(vertices), index):
         raise BadFace("there is no vertex with this index")
-    ends = [vertices[k] for edge in graph(P) if index in edge for k in edge if k != index]
+    ends = [vertices[k] for k in neighbours(P)[index]]
     plane = cutting_plane(supporting(P, (index,)), ends)
     return hull_in_kept_columns([crossing(plane, vertices[index], end) for end in ends])
 

@@ -7,7 +7,7 @@ from hullwright.lattice import count, inner_count
 from hullwright.making import scaled
 from hullwright.numbers import floor, minus, times
 from hullwright.polynomials import polynomial_through, polynomial_value
-from hullwright.vectors import dot, inverted, transposed
+from hullwright.vectors import divided_down, dot, inverted, transposed
 from hullwright.volumes import volume
 
 # The multiples that are counted, as few and as small as can be; -1 stands for the points inside.
@@ -19,10 +19,15 @@ def is_lattice_polytope(P):
     return all([vertex[0] == 1 for vertex in P.vertices()])
 
 
-def ehrhart(P):
-    """Return the coefficients of the polynomial that counts the lattice points of the multiples."""
+def check_lattice(P):
+    """Raise NotLattice if some vertex is not a lattice point."""
     if not is_lattice_polytope(P):
         raise NotLattice("a vertex is not a lattice point")
+
+
+def ehrhart(P):
+    """Return the coefficients of the polynomial that counts the lattice points of the multiples."""
+    check_lattice(P)
     d = P.dimension()
     last = volume(P)
     places = list(MULTIPLES[:d])
@@ -107,21 +112,3 @@ def step_sizes(rows):
         sizes.append(abs(lead[0]))
         work = [row[1:] for row in others]
     return sizes
-
-
-def divided_down(rows):
-    """Return a row and others, all with 0 first, that have the same integer combinations as the given rows."""
-    rest = sorted([row for row in rows if row[0] != 0], key=lambda row: abs(row[0]))
-    others = [row for row in rows if row[0] == 0]
-    while len(rest) > 1:
-        lead = rest[0]
-        smaller = [reduced_by(row, lead) for row in rest[1:]]
-        others.extend([row for row in smaller if row[0] == 0])
-        rest = sorted([row for row in smaller if row[0] != 0] + [lead], key=lambda row: abs(row[0]))
-    return (rest[0], others)
-
-
-def reduced_by(row, lead):
-    """Return a row minus a multiple of another one, which makes its first entry small."""
-    factor = row[0] // lead[0]
-    return [a - factor * b for a, b in zip(row, lead)]

@@ -20,7 +20,7 @@ def all_faces(P):
     """Return the ascending list of all faces."""
     many = len(P.vertices())
     # A set of vertices is kept as a number whose bits tell which vertices it has.
-    sides = [sum([1 << k for k in row]) for row in P.incidence()]
+    sides = [mask_of(row) for row in P.incidence()]
     whole = (1 << many) - 1
     found = {whole: True}
     waiting = [whole]
@@ -31,6 +31,11 @@ def all_faces(P):
                 found[mask & side] = True
                 waiting.append(mask & side)
     return sorted([face_of_mask(many, mask) for mask in found])
+
+
+def mask_of(indexes):
+    """Return the number whose bits with these indexes are set."""
+    return sum([1 << k for k in indexes])
 
 
 def face_of_mask(many, mask):
@@ -91,16 +96,30 @@ def facets_of(P, face):
 
 def supporting(P, face):
     """Return any inequality that holds at all vertices and is tight exactly at those of a face."""
-    if not is_face(P, face) or face == () or len(face) == len(P.vertices()):
-        raise BadFace("not a face between the empty one and the polytope itself")
+    check_proper(P, face)
     facets = P.facets()
     chosen = [facets[k] for k in facets_of(P, face)]
     return primitive(combined([1] * len(chosen), chosen))
 
 
+def check_proper(P, face):
+    """Raise BadFace if a value is no face, or the empty one, or the polytope itself."""
+    if not is_face(P, face) or face == () or len(face) == len(P.vertices()):
+        raise BadFace("not a face between the empty one and the polytope itself")
+
+
 def graph(P):
     """Return the ascending list of the edges."""
     return faces(P)[2]
+
+
+def neighbours(P):
+    """Return for each vertex the ascending list of the other ends of its edges."""
+    found = [[] for _ in P.vertices()]
+    for first, second in graph(P):
+        found[first].append(second)
+        found[second].append(first)
+    return found
 
 
 def flags(P):

@@ -93,6 +93,25 @@ def counted(levels, start, least):
     return sum([counted(levels, start + (entry,), least) for entry in range(low, high + 1)])
 
 
+def number_up_to(P, most):
+    """Return the number of the lattice points in a polytope, or some number from most on, if it is so great."""
+    return counted_up_to(levels_of(moved(P, narrowing_map(P))), (1,), most)
+
+
+def counted_up_to(levels, start, most):
+    """Return the number of the lattice points with given first entries, or some number from most on."""
+    low, high = bounds(levels[len(start) - 1], start, HOLDS)
+    if len(start) == len(levels):
+        return max(0, high - low + 1)
+    # The search ends as soon as there are enough of them, which may be long before its end.
+    many = 0
+    for entry in range(low, high + 1):
+        many += counted_up_to(levels, start + (entry,), most - many)
+        if many >= most:
+            return many
+    return many
+
+
 def lattice_hull(P):
     """Return the hull of the lattice points of a polytope."""
     ends = row_ends(P)

@@ -1,8 +1,6 @@
 """Maps that make a polytope narrow along its first coordinates, so that few integers are tried there in vain."""
 
-from math import lcm
-
-from hullwright.points import combined
+from hullwright.points import combined, with_common_first
 from hullwright.vectors import dot, transposed, unit
 
 
@@ -15,11 +13,7 @@ def narrowing_map(P):
 
 def spread(P):
     """Return the matrix of the form that tells for a direction the sum of the squares of the deviations along it."""
-    vertices = P.vertices()
-    common = 1
-    for vertex in vertices:
-        common = lcm(common, vertex[0])
-    spots = [tuple([entry * (common // vertex[0]) for entry in vertex[1:]]) for vertex in vertices]
+    spots = [spot[1:] for spot in with_common_first(P.vertices())]
     sums = combined([1] * len(spots), spots)
     deviations = [tuple([len(spots) * a - b for a, b in zip(spot, sums)]) for spot in spots]
     columns = transposed(deviations)

@@ -54,11 +54,15 @@ def combined(weights, vectors):
 
 def middle(points):
     """Return the point whose coordinates are the averages of those of the points."""
+    return primitive(combined([1] * len(points), with_common_first(points)))
+
+
+def with_common_first(points):
+    """Return multiples of points, in order, that have the same first entry."""
     common = 1
     for point in points:
         common = lcm(common, point[0])
-    total = combined([common // point[0] for point in points], points)
-    return primitive(total)
+    return [tuple([entry * (common // point[0]) for entry in point]) for point in points]
 
 
 def reversed_inequality(inequality):

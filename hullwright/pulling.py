@@ -1,6 +1,6 @@
 """Cells of a polytope: from the first vertex of each face to the parts of the face that do not contain it."""
 
-from hullwright.faces import face_of_mask
+from hullwright.faces import face_of_mask, mask_of
 
 
 def pulled_cells(P):
@@ -15,7 +15,7 @@ def pulled_sides(P):
 
 def sides_of(P):
     """Return the masks of the facets, numbers whose bits tell which vertices they have."""
-    return [sum([1 << k for k in row]) for row in P.incidence()]
+    return [mask_of(row) for row in P.incidence()]
 
 
 def cells_of_mask(P, mask):

@@ -1,20 +1,26 @@
 """Maps of vertices that make the faces of one polytope those of another one."""
 
 from hullwright.forms import is_index
+from hullwright.matching import in_place, matching_rows
 
 
 def shape_map(first, second):
     """Return any map of the vertices that makes faces faces, or None if there is none."""
+    found = shape_maps(first, second, True)
+    return found[0] if found != [] else None
+
+
+def shape_maps(first, second, only_one):
+    """Return the list of all maps of the vertices that make faces faces, or of one of them if there is one."""
     rows = first.incidence()
     others = second.incidence()
     many = len(first.vertices())
     if many != len(second.vertices()) or len(rows) != len(others):
-        return None
+        return []
     order = neighbouring_order(rows, many)
-    images = completed(rows, others, order, [])
-    if images is None:
-        return None
-    return tuple([image for _, image in sorted(list(zip(order, images)))])
+    wanted = [trace(rows, order[:k + 1]) for k in range(many)]
+    found = matching_rows(many, lambda images: trace(others, images) == wanted[len(images) - 1], only_one)
+    return [in_place(order, images) for images in found]
 
 
 def neighbouring_order(rows, many):
@@ -44,24 +50,11 @@ def common_rows(rows, first, second):
     return len([row for row in rows if first in row and second in row])
 
 
-def completed(rows, others, order, images):
-    """Return the images of all vertices in an order, the first of which are given, or None if there are none."""
-    many = len(images)
-    if traces(rows, order[:many]) != traces(others, images):
-        return None
-    if many == len(order):
-        return images
-    for k in range(len(order)):
-        if k not in images:
-            found = completed(rows, others, order, images + [k])
-            if found is not None:
-                return found
-    return None
-
-
-def traces(rows, chosen):
-    """Return the ascending list that tells for each facet its size and its chosen vertices, by their place."""
-    return sorted([(len(row), tuple([k for k, at in enumerate(chosen) if at in row])) for row in rows])
+def trace(rows, chosen):
+    """Return what the facets at the last chosen vertex have: their sizes and chosen vertices, by their place."""
+    # If all traces up to some place agree, so do the facets with the vertices up to there.
+    last = chosen[-1]
+    return sorted([(len(row), tuple([k for k, at in enumerate(chosen) if at in row])) for row in rows if last in row])
 
 
 def is_shape_map(first, second, value):

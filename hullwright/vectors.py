@@ -147,3 +147,38 @@ def inverted(rows):
 def unit(size, at):
     """Return the vector of this length with 1 at an index and 0 otherwise."""
     return (0,) * at + (1,) + (0,) * (size - at - 1)
+
+
+def divided_down(rows):
+    """Return a row and others, all with 0 first, that have the same integer combinations as the given rows."""
+    rest = sorted([row for row in rows if row[0] != 0], key=lambda row: abs(row[0]))
+    others = [row for row in rows if row[0] == 0]
+    while len(rest) > 1:
+        lead = rest[0]
+        smaller = [reduced_by(row, lead) for row in rest[1:]]
+        others.extend([row for row in smaller if row[0] == 0])
+        rest = sorted([row for row in smaller if row[0] != 0] + [lead], key=lambda row: abs(row[0]))
+    return (rest[0], others)
+
+
+def reduced_by(row, lead):
+    """Return a row minus a multiple of another one, which makes its first entry small."""
+    factor = row[0] // lead[0]
+    return [a - factor * b for a, b in zip(row, lead)]
+
+
+def adapted_forms(vectors):
+    """Return two lists of forms, together the rows of an integer matrix with the determinant 1 or -1.
+
+    The second ones are 0 on all vectors, and the first ones are as many as the rank of the vectors.
+    """
+    size = len(vectors[0])
+    # Behind the values of a form at the vectors stands the form itself.
+    work = [list(column) + list(unit(size, k)) for k, column in enumerate(transposed(vectors))]
+    first = []
+    for _ in vectors:
+        if any([row[0] != 0 for row in work]):
+            lead, work = divided_down(work)
+            first.append(tuple(lead[-size:]))
+        work = [row[1:] for row in work]
+    return (first, [tuple(row) for row in work])

@@ -1,10 +1,12 @@
 """Polytopes that several tests take, and checks of polytopes by the words of the document."""
 
+import itertools
+
 from hullwright.known import cross, cube, cyclic, simplex
 from hullwright.polytopes import hull
 from tests.support import (
-    corners_by_words, divided, facets_by_words, is_flat_list, rank_by_words, some_points, source_of, tight_everywhere,
-    vertices_by_words)
+    corners_by_words, det_by_words, divided, facets_by_words, is_flat_list, product_of, rank_by_words, some_points,
+    source_of, tight_everywhere, vertices_by_words)
 
 
 def random_polytope(source, d, many, most):
@@ -92,3 +94,52 @@ def image_by_words(rows, point):
     for factor, row in zip(point[1:], rows[1:]):
         total = [a + factor * b for a, b in zip(total, row)]
     return divided(total)
+
+
+def closed_sets(P):
+    """Return the set of all faces, as closed sets of vertices."""
+    vertices = P.vertices()
+    rows = [frozenset(k for k, vertex in enumerate(vertices) if product_of(facet, vertex) == 0)
+            for facet in P.facets()]
+    found = {frozenset(range(len(vertices)))}
+    while True:
+        more = {face & row for face in found for row in rows} - found
+        if not more:
+            return found
+        found |= more
+
+
+def shape_map_by_words(first, second, value):
+    """Tell whether a value is a map that makes faces faces."""
+    many = len(first.vertices())
+    if not isinstance(value, tuple) or not all(type(k) is int for k in value):
+        return False
+    if len(value) != many or sorted(value) != list(range(len(second.vertices()))):
+        return False
+    return {frozenset(value[k] for k in face) for face in closed_sets(first)} == closed_sets(second)
+
+
+def edges_by_words(P):
+    """Return the set of the pairs of vertices that lie in a row of facets which leaves room for nothing else."""
+    d, vertices = P.dimension(), P.vertices()
+    found = set()
+    for first, second in itertools.combinations(range(len(vertices)), 2):
+        around = [row for row in P.facets()
+                  if product_of(row, vertices[first]) == 0 and product_of(row, vertices[second]) == 0]
+        if rank_by_words(around) == d - 1:
+            found.add((first, second))
+    return found
+
+
+def all_faces_by_words(P):
+    """Return the list of all faces: the vertices at which some facets are tight, for each choice of facets."""
+    return [tuple(sorted(face)) for face in closed_sets(P)]
+
+
+def some_unimodular_map(source, d):
+    """Return a random map that leads lattice points to lattice points, and all of them from some."""
+    while True:
+        rows = [(1,) + tuple(source.randint(-5, 5) for _ in range(d))]
+        rows += [(0,) + tuple(source.randint(-2, 2) for _ in range(d)) for _ in range(d)]
+        if abs(det_by_words(rows)) == 1:
+            return rows

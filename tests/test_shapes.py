@@ -6,31 +6,8 @@ import unittest
 from hullwright.known import cross, cube, cyclic, simplex
 from hullwright.polytopes import common_part, hull
 from hullwright.shapes import is_shape_map, shape_map
-from tests.support import (
-    ODD_VALUES, box_rows, is_flat_list, moved_points, product_of, some_points, source_of, variants)
-
-
-def all_faces(P):
-    """Return the set of all faces, as closed sets of vertices."""
-    vertices = P.vertices()
-    rows = [frozenset(k for k, vertex in enumerate(vertices) if product_of(facet, vertex) == 0)
-            for facet in P.facets()]
-    found = {frozenset(range(len(vertices)))}
-    while True:
-        more = {face & row for face in found for row in rows} - found
-        if not more:
-            return found
-        found |= more
-
-
-def map_by_words(first, second, value):
-    """Tell whether a value is a map that makes faces faces."""
-    many = len(first.vertices())
-    if not isinstance(value, tuple) or not all(type(k) is int for k in value):
-        return False
-    if len(value) != many or sorted(value) != list(range(len(second.vertices()))):
-        return False
-    return {frozenset(value[k] for k in face) for face in all_faces(first)} == all_faces(second)
+from tests.samples import shape_map_by_words
+from tests.support import ODD_VALUES, box_rows, is_flat_list, moved_points, some_points, source_of, variants
 
 
 def truncated(first, second):
@@ -43,7 +20,7 @@ class ShapeTest(unittest.TestCase):
     def assert_mapped(self, first, second):
         found = shape_map(first, second)
         self.assertIsInstance(found, tuple)
-        self.assertTrue(map_by_words(first, second, found))
+        self.assertTrue(shape_map_by_words(first, second, found))
         self.assertIs(is_shape_map(first, second, found), True)
 
     def test_moved(self):
@@ -94,7 +71,7 @@ class ShapeTest(unittest.TestCase):
         for first, second in zip(found, found[1:] + found[:1]):
             for other in (second, first):
                 many = len(first.vertices())
-                right = [value for value in itertools.permutations(range(many)) if map_by_words(first, other, value)]
+                right = [value for value in itertools.permutations(range(many)) if shape_map_by_words(first, other, value)]
                 self.assertEqual(shape_map(first, other) is None, right == [])
                 for value in itertools.permutations(range(many)):
                     self.assertIs(is_shape_map(first, other, value), value in right)
@@ -111,7 +88,7 @@ class ShapeTest(unittest.TestCase):
             if answer is None:
                 self.assertIsNone(shape_map(second, first))
             else:
-                self.assertTrue(map_by_words(first, second, answer))
+                self.assertTrue(shape_map_by_words(first, second, answer))
 
     def test_long_polygons(self):
         first = hull(2, [(1, t, t * t) for t in range(-20, 20)])
@@ -123,7 +100,7 @@ class ShapeTest(unittest.TestCase):
         for P in (simplex(1), cube(2), simplex(3)):
             right = tuple(range(len(P.vertices())))
             for value in ODD_VALUES + list(variants(right)) + [right[::-1], (0,) * len(right)]:
-                self.assertIs(is_shape_map(P, P, value), map_by_words(P, P, value), value)
+                self.assertIs(is_shape_map(P, P, value), shape_map_by_words(P, P, value), value)
         self.assertIs(is_shape_map(cube(2), cube(2), (0, 1, 2, 3)), True)
         self.assertIs(is_shape_map(cube(2), cube(2), (0, 3, 2, 1)), False)
         self.assertIs(is_shape_map(cube(1), cube(1), (True, False)), False)
