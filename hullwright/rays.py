@@ -7,7 +7,7 @@ def extreme_rays(rows):
     """Return the ascending list of the primitive vectors on the extreme rays of a cone.
 
     The cone is the set of the vectors whose products with all rows are at
-    least 0. The rank of the rows is their length, which is at least 2.
+    least 0. The rank of the rows is their length.
     """
     first = independent_rows(rows)
     rays = starting_rays(rows, first)
@@ -35,7 +35,7 @@ def starting_rays(rows, chosen):
     rays = []
     for k in chosen:
         others = [i for i in chosen if i != k]
-        vector = relation(transposed([rows[i] for i in others]))
+        vector = relation(transposed([rows[i] for i in others])) if others != [] else (1,)
         if dot(vector, rows[k]) < 0:
             vector = tuple([-entry for entry in vector])
         rays.append((vector, sum([1 << i for i in others])))

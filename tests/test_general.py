@@ -4,8 +4,9 @@ import copy
 import unittest
 
 from hullwright import (
-    books, builder, cells, console, dimensions, ehrhart, faces, known, lattice, making, numbers, optimum, points,
-    polytopes, questions, shapes, systems, vectors, volumes)
+    basic, books, builder, cells, circuits, cones, console, dimensions, ehrhart, faces, fitting, known, lattice, making,
+    numbers, optimum, papers, points, polytopes, questions, reflexive, regular, shapes, symmetries, systems, vectors,
+    volumes, ways, zonotopes)
 from tests.samples import lists_of
 from tests.support import divided, source_of
 
@@ -16,6 +17,11 @@ CORNERS = [(1, 0, 0), (1, 2, 0), (1, 0, 2), (1, 2, 2), (1, 1, 1)]
 MAP = [(3, 1, 2), (0, 1, 4), (0, -2, 5)]
 
 SQUARE = known.cube(2)
+HALF = making.scaled(SQUARE, (1, 2))
+
+CELLS = ((0, 1, 4), (0, 2, 4), (1, 3, 4), (2, 3, 4))
+VECTORS = [(1, 0), (0, 1), (1, 3), (1, 0)]
+BOOK = "points 1\npoint 0\n? (corner 0)\n! (yes ())\n"
 
 CALLS = [
     (numbers.fraction, 6, -4), (numbers.plus, (1, 2), (1, 3)), (numbers.minus, (1, 2), (1, 3)),
@@ -47,6 +53,18 @@ CALLS = [
     (optimum.optimum_paper, 2, ROWS, (1, 2)), (optimum.optimum_paper, 2, ROWS[:2], (1, 2)),
     (optimum.optimum_paper, 2, ROWS + [(-9, 0, 1)], (1, 2)),
     (optimum.check_optimum, 2, ROWS, (1, 2), ["best", [1], [2], 3]),
+    (cones.cone_paper, 2, VECTORS, (3, 1)), (cones.cone_paper, 2, VECTORS, (-3, 1)),
+    (cones.check_cone, 2, VECTORS, (3, 1), ["yes", [1], 2]),
+    (zonotopes.sign_rows, 2, VECTORS), (zonotopes.zone_volume, 2, VECTORS), (zonotopes.zone_count, 2, VECTORS),
+    (circuits.circuits, 2, CORNERS), (circuits.all_triangulations, 2, CORNERS), (circuits.flips, 2, CORNERS, CELLS),
+    (regular.height_paper, 2, CORNERS, CELLS), (regular.check_heights, 2, CORNERS, CELLS, ["yes", [1, 2]]),
+    (regular.is_fine, CORNERS, CELLS), (regular.counts_of_kinds, 2, CORNERS),
+    (reflexive.is_unimodular, 2, CORNERS, (0, 1, 2)), (reflexive.is_empty_cell, 2, CORNERS, (0, 1, 2)),
+    (fitting.projected, 2, ROWS, 1), (basic.pointing, 2, VECTORS), (basic.pointing, 2, [(1, 0), (-1, 0)]),
+    (basic.basic_vectors, 2, VECTORS), (basic.as_sum, 2, VECTORS, (2, 3)), (basic.as_sum, 2, VECTORS, (-2, 3)),
+    (papers.write_value, ("a", (1, ()))), (papers.read_value, "(a (1 ()))"),
+    (papers.write_book, 2, SPOTS, [("corner", 0), ("inside", (1, 1, 1))]), (papers.read_book, BOOK),
+    (papers.book_faults, BOOK),
 ]
 
 # These return objects, or take them: an object never changes, which is seen by its lists.
@@ -64,6 +82,19 @@ POLYTOPE_CALLS = [
     (lattice.inner_lattice_points, SQUARE), (lattice.inner_count, SQUARE), (lattice.lattice_width, SQUARE, (1, 2)),
     (ehrhart.ehrhart, SQUARE), (ehrhart.h_star, SQUARE), (books.write_polytope, SQUARE), (books.report, SQUARE),
     (optimum.greatest, SQUARE, (1, 2)), (optimum.best_face, SQUARE, (1, 0)),
+    (ways.rising_way, SQUARE, (1, 2), 0), (ways.is_rising_way, SQUARE, (1, 2), [0, [1]]),
+    (ways.distance, SQUARE, 0, 3), (ways.diameter, SQUARE),
+    (symmetries.symmetries, SQUARE), (symmetries.affine_symmetries, SQUARE), (symmetries.orbits, SQUARE),
+    (symmetries.affine_map, SQUARE, SQUARE), (symmetries.lattice_map, SQUARE, SQUARE),
+    (symmetries.is_affine_map, SQUARE, SQUARE, [(1, 0, 0), (0, 1, 0), [0, 0, 1]]),
+    (symmetries.is_affine_map, SQUARE, SQUARE, [(1, 0, 0), (0, 1, 0), (0, 0, 1)]),
+    (cones.normals, SQUARE, (0,)), (cones.normal_paper, SQUARE, (0,), (1, 2)), (cones.are_parallel, SQUARE, SQUARE),
+    (cones.edge_vectors, SQUARE, 0), (cones.tangent_facets, SQUARE, 0), (zonotopes.has_centre, SQUARE),
+    (reflexive.is_reflexive, SQUARE), (reflexive.facet_distance, SQUARE, 0, (1, 0, 0)),
+    (reflexive.lattice_size, SQUARE), (reflexive.boundary_points, SQUARE),
+    (reflexive.face_lattice_points, SQUARE, (0, 1)), (fitting.is_contained, SQUARE, SQUARE),
+    (fitting.box_of, SQUARE), (fitting.fit, SQUARE, SQUARE), (fitting.fit_system, SQUARE, SQUARE),
+    (basic.is_normal, SQUARE), (basic.sum_gap, SQUARE),
 ]
 
 # These return polytopes.
@@ -74,7 +105,8 @@ MAKERS = [
     (dimensions.prism, SQUARE), (dimensions.pyramid, SQUARE), (dimensions.bipyramid, SQUARE),
     (dimensions.shadow, SQUARE, 1), (dimensions.section, SQUARE, 1, (1, 2)), (dimensions.corner_figure, SQUARE, 0),
     (lattice.lattice_hull, SQUARE), (faces.face_polytope, SQUARE, (0, 1)), (polytopes.hull, 2, SPOTS),
-    (polytopes.common_part, 2, ROWS),
+    (polytopes.common_part, 2, ROWS), (zonotopes.zonotope, 2, VECTORS),
+    (fitting.eroded, SQUARE, HALF),
 ]
 
 
@@ -112,7 +144,7 @@ class GeneralTest(unittest.TestCase):
     def test_makers(self):
         before = lists_of(SQUARE)
         for function, *arguments in MAKERS:
-            given = [argument for argument in arguments if argument is not SQUARE]
+            given = [argument for argument in arguments if argument is not SQUARE and argument is not HALF]
             kept = copy.deepcopy(given)
             P = function(*arguments)
             self.assertIsInstance(P, polytopes.Polytope)
@@ -173,6 +205,56 @@ class EndsSoonTest(unittest.TestCase):
                 desk.cut(row)
             self.assertIn(desk.state(), ("polytope", "flat", "empty"))
             self.assertGreaterEqual(desk.volume()[0], 0)
+
+    def test_ways_symmetries_cones_and_zonotopes(self):
+        source = source_of(232)
+        for _ in range(2):
+            spots, rows = four_digits(source, 8)
+            P = polytopes.hull(4, spots)
+            Q = polytopes.common_part(4, rows)
+            form = (9999, -9998, 7777, 1)
+            for R in (P, Q):
+                many = len(R.vertices())
+                self.assertTrue(all(ways.is_rising_way(R, form, ways.rising_way(R, form, k)) for k in range(many)))
+                self.assertGreater(ways.diameter(R), 0)
+                self.assertIn(tuple(range(many)), symmetries.affine_symmetries(R))
+                self.assertEqual(sum(len(orbit) for row in symmetries.orbits(R) for orbit in row),
+                                 1 + sum(faces.face_numbers(R)))
+                self.assertTrue(symmetries.is_affine_map(R, R, symmetries.affine_map(R, R)))
+                self.assertEqual(cones.normal_paper(R, optimum.best_face(R, form), form)[0], "yes")
+                self.assertGreaterEqual(len(cones.edge_vectors(R, 0)), 4)
+                self.assertIsNone(zonotopes.has_centre(R))
+            self.assertIs(cones.are_parallel(Q, making.scaled(Q, (7, 3))), True)
+            vectors = [spot[1:] for spot in spots]
+            Z = zonotopes.zonotope(4, vectors)
+            self.assertEqual(len(zonotopes.sign_rows(4, vectors)), sum(faces.face_numbers(Z)))
+            self.assertEqual(volumes.volume(Z), (zonotopes.zone_volume(4, vectors), 1))
+            self.assertGreater(zonotopes.zone_count(4, vectors), zonotopes.zone_volume(4, vectors))
+        for R in (known.cube(4), known.cross(4)):
+            self.assertEqual(len(symmetries.symmetries(R)), 384)
+            self.assertEqual(len(symmetries.affine_symmetries(R)), 384)
+            self.assertIsNotNone(symmetries.lattice_map(R, R))
+
+    def test_circuits_fitting_and_papers(self):
+        source = source_of(233)
+        for d in range(1, 5):
+            points = [(source.randint(1, 9999),) + tuple(source.randint(-9999, 9999) for _ in range(d))
+                      for _ in range(7)]
+            points = [divided(point) for point in points]
+            rows = circuits.all_triangulations(d, points)
+            self.assertTrue(all(other in rows for other in circuits.flips(d, points, rows[0])))
+            self.assertEqual(regular.counts_of_kinds(d, points)[0], len(rows))
+        spots, rows = four_digits(source, 8)
+        P = polytopes.hull(4, spots)
+        Q = polytopes.common_part(4, rows)
+        t, x = fitting.fit(P, Q)
+        self.assertTrue(fitting.is_contained(making.shifted(making.scaled(Q, t), x), P))
+        self.assertTrue(polytopes.same(fitting.eroded(making.summed(P, Q), Q), P))
+        for k in range(1, 5):
+            self.assertNotEqual(fitting.projected(4, rows, k), [])
+        self.assertLessEqual(reflexive.lattice_size(P), lattice.lattice_width(P, (1, 0, 0, 0))[0])
+        text = papers.write_book(4, spots, [("corner", k) for k in range(8)] + [("face", (0, 1)), ("inside", spots[0])])
+        self.assertEqual(papers.book_faults(text), [])
 
 
 def facet_through(point):

@@ -1,8 +1,10 @@
 """The interface: each name stands in its module, with the arguments that the document lists."""
 
+import doctest
 import importlib
 import inspect
 import unittest
+from pathlib import Path
 
 INTERFACE = {
     "numbers": "fraction(a, b) plus(x, y) minus(x, y) times(x, y) over(x, y) sign(x) compare(x, y) floor(x)"
@@ -36,7 +38,27 @@ INTERFACE = {
     "console": "run_console(text)",
     "optimum": "form_value(form, point) greatest(P, form) best_face(P, form) optimum_paper(d, rows, form)"
                " check_optimum(d, rows, form, value)",
+    "ways": "rising_way(P, form, start) is_rising_way(P, form, value) distance(P, first, second) diameter(P)",
+    "symmetries": "symmetries(P) affine_symmetries(P) affine_map(first, second) lattice_map(first, second)"
+                  " is_affine_map(first, second, value) orbits(P)",
+    "cones": "cone_paper(d, generators, vector) normal_paper(P, face, form) check_cone(d, generators, vector, value)"
+             " are_parallel(P, Q) normals(P, face) edge_vectors(P, index) tangent_facets(P, index)",
+    "zonotopes": "zonotope(d, vectors) sign_rows(d, vectors) zone_volume(d, vectors) zone_count(d, vectors)"
+                 " has_centre(P)",
+    "circuits": "circuits(d, points) all_triangulations(d, points) flips(d, points, cells)",
+    "regular": "height_paper(d, points, cells) check_heights(d, points, cells, value) is_fine(points, cells)"
+               " counts_of_kinds(d, points)",
+    "reflexive": "is_reflexive(P) is_unimodular(d, points, cell) is_empty_cell(d, points, cell)"
+                 " facet_distance(P, k, point) lattice_size(P) boundary_points(P) face_lattice_points(P, face)",
+    "fitting": "is_contained(P, Q) box_of(P) fit(P, Q) fit_system(P, Q) projected(d, rows, k) eroded(P, Q)",
+    "basic": "pointing(d, generators) basic_vectors(d, generators) sum_gap(P) as_sum(d, generators, vector)"
+             " is_normal(P)",
+    "papers": "write_value(value) write_book(d, points, questions) read_value(text) read_book(text)"
+              " book_faults(text)",
 }
+
+ERRORS = ["BadNumber", "BadText", "BadInequality", "Empty", "Unbounded", "BadSize", "Flat", "BadQuestion", "BadFace",
+          "NotInside", "BadMap", "NotLattice", "NoSuch", "BadLine", "NotPointed"]
 
 METHODS = {
     ("polytopes", "Polytope"): "dimension() vertices() facets() incidence() contains(point) is_inside(point)",
@@ -69,6 +91,19 @@ class InterfaceTest(unittest.TestCase):
             module = importlib.import_module("hullwright." + module_name)
             for name, arguments in entries_of(listed):
                 self.assert_listed(vars(getattr(module, class_name))[name], module, ["self"] + arguments)
+
+    def test_errors(self):
+        from hullwright import errors
+        self.assertEqual(errors.HullwrightError.__bases__, (ValueError,))
+        for name in ERRORS:
+            found = getattr(errors, name)
+            self.assertEqual(found.__bases__, (errors.HullwrightError,))
+            self.assertEqual(found.__module__, "hullwright.errors")
+
+    def test_examples_of_the_document(self):
+        examples = Path(__file__).resolve().parent / "examples.txt"
+        failed, tried = doctest.testfile(str(examples), module_relative=False)
+        self.assertEqual((failed, tried), (0, 96))
 
     def test_builder_begins_with_a_dimension(self):
         from hullwright.builder import Builder
