@@ -6,7 +6,7 @@ import unittest
 from fractions import Fraction
 from functools import reduce
 
-from hullwright.vectors import determinant, dot, echelon, primitive, rank, relation, solve
+from hullwright.vectors import adapted_forms, determinant, dot, echelon, primitive, rank, relation, solve
 from tests.support import divided, product_of, rank_by_words, reduced_form, some_row, source_of, weighted, whole
 
 
@@ -157,3 +157,17 @@ class RelationTest(unittest.TestCase):
         self.assert_related([(2, 4), (3, 6)])
         self.assert_related([(1, 0), (0, 1)])
         self.assert_related([(6, 0), (0, 10), (15, 15)])
+
+
+class AdaptedFormsTest(unittest.TestCase):
+    """What basic vectors rest on: coordinates of the vectors of integers in a plane."""
+
+    def test_random(self):
+        for rows in matrices(8, 400):
+            given = list(rows)
+            forms, flat = adapted_forms(rows)
+            self.assertEqual(rows, given)
+            self.assertEqual(len(forms), rank_by_words(rows))
+            self.assertIn(determinant_by_words(forms + flat), (1, -1))
+            for form in flat:
+                self.assertTrue(all(product_of(form, row) == 0 for row in rows))
